@@ -4,7 +4,8 @@ import unittest
 from owntimes.errors import InvalidNumber, NotLags, TooMany
 from owntimes.lagsets import Lags
 from tests import oracle
-from tests.test_lagsets import NO_INTEGERS, Odd, raised, random_parts
+from tests.drawn import random_parts
+from tests.wrong import NO_INTEGERS, Odd, raised
 
 OPERATORS = {
     "|": lambda one, other: one | other,

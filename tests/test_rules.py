@@ -1,11 +1,33 @@
 """Those rules for the files of the package that can be looked up plainly."""
 
 import ast
+import builtins
 import pathlib
+import re
 import unittest
 
 PACKAGE = pathlib.Path(__file__).resolve().parent.parent / "owntimes"
 LIBRARY = {"math": {"gcd", "lcm"}}
+BUILTINS = set(
+    "len range enumerate zip min max sum abs sorted reversed int str bool bytes list tuple dict set isinstance ord repr "
+    "any all divmod pow property classmethod staticmethod super Exception ValueError TypeError KeyError IndexError "
+    "LookupError ZeroDivisionError ArithmeticError OverflowError RuntimeError NotImplementedError".split()
+)
+METHODS = set(
+    "append clear copy count endswith extend find get index insert isalnum isalpha isdigit islower isspace isupper items "
+    "join keys ljust lower lstrip partition pop remove replace reverse rfind rjust rpartition rsplit rstrip setdefault "
+    "split splitlines startswith strip update upper values zfill bit_length isascii removeprefix removesuffix".split()
+)
+NO_WORDS = re.compile(
+    r"\b(register|mro|elements|open|input|law|version_info|with_traceback|add_note|breakpoint|compile|copyright|credits"
+    r"|dir|eval|exec|exit|globals|help|id|license|locals|os|quit|vars|enum|Enum|Flag|Generic|Protocol|ABC|Meta)\b"
+)
+# Where the interface lists its classes and functions.
+DEFINED = {
+    "lagsets.py": ("Lags",), "lines.py": ("Station", "Link", "Line"), "stuck.py": ("rings", "stuck"),
+    "moments.py": ("moments", "end", "whole_end", "events", "under_way"),
+    "orders.py": ("order_lags", "outlet_lags", "reaching", "in_sequence"),
+}
 
 
 class RulesTest(unittest.TestCase):
@@ -46,6 +68,44 @@ class RulesTest(unittest.TestCase):
             self.assertNotIsInstance(node.value, (float, complex), name)
             if isinstance(node.value, str):
                 self.assertNotIn("%", node.value, name)
+
+    def test_names(self):
+        for path, tree in self.trees.items():
+            kept = {alias.name for node in ast.walk(tree) if isinstance(node, ast.ImportFrom) for alias in node.names}
+            kept |= {node.name for node in ast.walk(tree) if isinstance(node, ast.ClassDef)}
+            for node in ast.walk(tree):
+                if isinstance(node, ast.Name) and isinstance(node.ctx, ast.Load):
+                    self.assertTrue(node.id in BUILTINS or not hasattr(builtins, node.id), (path.name, node.id))
+                name = node.arg if isinstance(node, ast.arg) else ""
+                if isinstance(node, ast.Name) and isinstance(node.ctx, ast.Store):
+                    name = node.id
+                self.assertFalse(hasattr(builtins, name) or name in kept, (path.name, name))
+            self.assertIsNone(NO_WORDS.search(self.texts[path]), path.name)
+
+    def test_imports_name_the_file_that_defines(self):
+        defined = {}
+        for path, tree in self.trees.items():
+            names = {node.name for node in tree.body if isinstance(node, (ast.FunctionDef, ast.ClassDef))}
+            names |= {node.targets[0].id for node in tree.body if isinstance(node, ast.Assign)}
+            defined[f"owntimes.{path.stem}"] = names
+            self.assertLessEqual(set(DEFINED.get(path.name, ())), names)
+        for name, node in self.nodes(ast.ImportFrom):
+            if node.module not in LIBRARY:
+                self.assertLessEqual({alias.name for alias in node.names}, defined[node.module], name)
+
+    def test_methods(self):
+        own = {node.name for _, node in self.nodes(ast.FunctionDef)}
+        for name, node in self.nodes(ast.Call):
+            if isinstance(node.func, ast.Attribute):
+                self.assertIn(node.func.attr, METHODS | own, name)
+
+    def test_ranges_and_their_kin_are_not_passed_on(self):
+        takers = ("list", "tuple", "dict", "sorted", "sum", "any", "all", "enumerate", "zip", "min", "max", "len")
+        for name, node in self.nodes(ast.Call):
+            for part in node.args:
+                inner = part.func if isinstance(part, ast.Call) else None
+                if isinstance(inner, ast.Name) and inner.id in ("range", "zip", "enumerate", "reversed"):
+                    self.assertTrue(isinstance(node.func, ast.Name) and node.func.id in takers, (name, node.lineno))
 
     def test_any_and_its_kin_take_lists(self):
         for name, node in self.nodes(ast.Call):

@@ -1,0 +1,79 @@
+"""Checks of what is passed, each with the error that it raises."""
+
+from owntimes.errors import InvalidFlag, InvalidHands, InvalidIndex, InvalidName, InvalidNumber, InvalidStock
+from owntimes.errors import InvalidTasks, InvalidTimes, UnknownName
+from owntimes.limits import MOST_HANDS, MOST_NUMBER, MOST_STOCK
+from owntimes.values import is_between, is_from, is_name, is_one_of
+
+
+def check_name(value):
+    """Raise InvalidName if the value is no name."""
+    if not is_name(value):
+        raise InvalidName(value)
+
+
+def check_hands(value):
+    """Raise InvalidHands if the value is no number of hands and not None."""
+    if value is not None and not is_between(value, 1, MOST_HANDS):
+        raise InvalidHands(value)
+
+
+def check_stock(value):
+    """Raise InvalidStock if the value is no stock of a link."""
+    if not is_between(value, 0, MOST_STOCK):
+        raise InvalidStock(value)
+
+
+def check_flag(value):
+    """Raise InvalidFlag if the value is neither True nor False."""
+    if not isinstance(value, bool):
+        raise InvalidFlag(value)
+
+
+def check_known(value, names):
+    """Raise UnknownName if the value is none of the names."""
+    if not is_one_of(value, names):
+        raise UnknownName(value)
+
+
+def check_index(value, many):
+    """Raise InvalidIndex if the value is no index of one of so many."""
+    if not is_between(value, 0, many - 1):
+        raise InvalidIndex(value)
+
+
+def check_number(value):
+    """Raise InvalidNumber if the value is no number up to which works are looked at."""
+    if not is_between(value, 1, MOST_NUMBER):
+        raise InvalidNumber(value)
+
+
+def check_moment(value):
+    """Raise InvalidNumber if the value is no moment."""
+    if not is_from(value, 0):
+        raise InvalidNumber(value)
+
+
+def check_times(value):
+    """Raise InvalidTimes if the value is no dict from tasks, of any line, to integers from 0 on."""
+    if not isinstance(value, dict):
+        raise InvalidTimes(value)
+    for task, span in value.items():
+        if not _is_pair(task) or not is_name(task[0]) or not is_from(task[1], 1) or not is_from(span, 0):
+            raise InvalidTimes(value)
+
+
+def check_tasks(value, names):
+    """Raise InvalidTasks if the value is no tuple of different tasks of the stations with these names."""
+    if not isinstance(value, tuple):
+        raise InvalidTasks(None)
+    seen = {}
+    for at, task in enumerate(value):
+        if not _is_pair(task) or not is_one_of(task[0], names) or not is_from(task[1], 1) or task in seen:
+            raise InvalidTasks(at)
+        seen[task] = True
+
+
+def _is_pair(value):
+    """Whether the value is a tuple of two."""
+    return isinstance(value, tuple) and len(value) == 2

@@ -1,0 +1,41 @@
+"""Drawn inputs."""
+
+from owntimes.lines import Line, Link, Station
+from tests import walks
+
+NAMES = ("a", "b", "c", "z", "a1", "ab", "b0", "weld", "cut2", "abcdefgh", "z9999999", "q")
+
+
+def random_parts(chance, most=12, periods=(1, 2, 3, 4, 5, 6, 7, 8, 9, 10, 12)):
+    single = tuple(chance.randrange(most) for _ in range(chance.randrange(5)))
+    again = tuple(chance.randrange(most) for _ in range(chance.choice((0, 1, 1, 2, 3, 5))))
+    return single, again, chance.choice(periods)
+
+
+def random_line(chance, stations=6, links=12, stock=5, hands=4):
+    """A line with up to so many stations and links, stuck or not."""
+    names = chance.sample(NAMES, chance.randint(1, stations))
+    hands_of = (None, *range(1, hands + 1))
+    made = [Station(name, chance.choice(hands_of), timed=chance.random() < 0.8) for name in names]
+    joined = [
+        Link(chance.choice(names), chance.choice(names), chance.randint(0, stock), early=chance.random() < 0.25)
+        for _ in range(chance.randint(0, links))
+    ]
+    return Line(tuple(made), tuple(joined), chance.choice(names))
+
+
+def random_free_line(chance, stations=6, links=12, stock=5, hands=4):
+    """Likewise, but no line that is stuck."""
+    while True:
+        line = random_line(chance, stations, links, stock, hands)
+        if not walks.is_stuck(line):
+            return line
+
+
+def random_times(chance, line, number, most, share=0.7):
+    """Times for some of the works up to this number, of the line's stations and of others."""
+    names = [*line.names, "nobody"]
+    return {
+        (name, k): chance.randint(0, most)
+        for name in names for k in range(1, number + 1) if chance.random() < share
+    }
