@@ -64,13 +64,13 @@ def meet(one, other):
     start = max(one[1], other[1])
     if any([flag_at(one, number) and flag_at(other, number) for number in range(start)]):
         return True
-    return any(_shared_classes(_cycle_from(one, start), _cycle_from(other, start)))
+    return any(_shared_classes(cycle_from(one, start), cycle_from(other, start)))
 
 
 def meeting_row(one, other, limit):
     """The row of what is in both rows; None if already its least period is above the limit."""
     start = max(one[1], other[1])
-    period = meeting_period(_cycle_from(one, start), _cycle_from(other, start))
+    period = meeting_period(cycle_from(one, start), cycle_from(other, start))
     if period > limit:
         return None
     return tuple([flag_at(one, number) and flag_at(other, number) for number in range(start + period)]), start
@@ -96,7 +96,7 @@ def _kept(cycle, shared):
     return [cycle[at] and shared[at % len(shared)] for at in range(len(cycle))]
 
 
-def _cycle_from(row, first):
+def cycle_from(row, first):
     """The flags of one period from this number on, which is not before the start."""
     return [flag_at(row, first + at) for at in range(len(row[0]) - row[1])]
 

@@ -50,10 +50,10 @@ def steps_of(line):
 
 
 def reached_from(line, point):
-    """The points that ways from this one lead to, number by number, and from which one on they come again.
+    """The points that ways from this one lead to, as a list with those of each number, and where they come again.
 
-    Numbers count from that of the point on. The list of the points of each number ends where it begins
-    to come again from the second value on.
+    Numbers count from that of the point on. The part of the list from the second value on, which is at
+    least 1, comes again without end. The line is not stuck.
     """
     steps = steps_of(line)
     near = _reached_at_once(steps, 2 * len(line))
@@ -79,7 +79,7 @@ def outlet_row(line, name):
     """The outlet lags of a station of a line that is not stuck, as a row."""
     flags, start = order_row(line, name, line.outlet)
     # A work of the outlet reaches its own number, though it is not before itself. The flag of 0 can be
-    # changed alone, as no row comes again from 0 on already.
+    # changed alone, as it is never in the part that comes again.
     return (flags[0] or name == line.outlet,) + flags[1:], start
 
 

@@ -236,6 +236,64 @@ class BoundsTest(HeldAgainstIntegers):
             long += self.check("+", one, other)
         self.assertGreater(long, 0)
 
+    def test_sums_of_sums(self):
+        # Both sets have up to 970 single integers; a set that has 0 and all its sums is its own sum.
+        for one_by, other_by in ((43, 47), (41, 47), (59, 34), (60, 33), (60, 31), (45, 44)):
+            by_one, by_other = Lags(again=(0,), period=one_by), Lags(again=(0,), period=other_by)
+            sums = by_one + by_other
+            self.assertFalse(self.check("+", sums, sums))
+            self.assertEqual(sums + sums, sums)
+            self.assertEqual((sums + by_one, by_other + sums), (sums, sums))
+            self.check("+", sums, Lags((0, 3), (7,), 9))
+            self.check("+", Lags((1, 40, 68), (), 1), sums)
+            self.check("+", sums.shifted(-30), sums.shifted(-40))
+
+    def test_sums_of_sums_at_the_bound(self):
+        sums = Lags(again=(0,), period=43) + Lags(again=(0,), period=47)
+        self.assertEqual((sums.start, sums.period), (1932, 1))
+        self.check_both("+", (sums, Lags((67,))), (sums, Lags((68,))))
+        self.check_both("+", (Lags((67,)), sums), (Lags((68,)), sums))
+        self.assertFalse(self.check("+", sums, Lags((67, 68))))
+        self.assertTrue(self.check("+", sums.shifted(34), sums.shifted(35)))
+        self.assertEqual(raised(NotLags, lambda: sums.shifted(67) + (68,)).given, (68,))
+
+    def test_drawn_sums_of_sums(self):
+        chance, exact = random.Random(13), 0
+        for _ in range(60):
+            sums = []
+            while len(sums) < 2:
+                periods = chance.sample(range(20, 61), 2)
+                parts = [Lags(tuple(chance.sample(range(90), 2)), (chance.randrange(20),), by) for by in periods]
+                try:
+                    sums.append(parts[0] + parts[1])
+                except TooMany:
+                    continue
+            self.assertFalse(self.check("+", *sums))
+            found = sums[0] + sums[1]
+            by = 2000 - found.start - found.period
+            first = min(1000, by, 2000 - sums[0].start - sums[0].period)
+            if 0 <= by - first < 2000 - sums[1].start - sums[1].period and by - first < 1000:
+                one, other = sums[0].shifted(first), sums[1].shifted(by - first)
+                self.check_both("+", (one, other), (one, other.shifted(1)))
+                exact += 1
+        self.assertGreater(exact, 20)
+
+    def test_sums_that_are_there_before_they_come(self):
+        # By 499 and 497 the sums of coming members come late, but those with single members are there.
+        full, thin = Lags.read(" ".join(map(str, range(498))) + " 498+499"), Lags.read("0+497")
+        for pair in ((full, thin), (thin, full)):
+            self.assertFalse(self.check("+", *pair))
+            self.assertEqual(str(pair[0] + pair[1]), "0+1")
+        chance, long = random.Random(14), 0
+        for _ in range(12):
+            left = sorted(chance.sample(range(1, 498), chance.randrange(1, 5)))
+            single = " ".join(str(number) for number in range(498) if number not in left)
+            again = " ".join(f"{498 + number}+499" for number in sorted(chance.sample(range(200), 3)))
+            one = Lags.read(f"{single} {again}") if chance.random() < 0.5 else Lags.read(f"{single} 498+499")
+            long += self.check("+", one, thin)
+            self.check("+", thin, one)
+        self.assertGreater(long, 3)
+
     def test_too_many_is_raised_last(self):
         wide = Lags.read("0+1000")
         for sign in OPERATORS:

@@ -296,7 +296,8 @@ class ReadTest(unittest.TestCase):
         for row in (
             "link a -> a: stock", "link a -> a: stock ", "link a -> a: stock 6", "link a -> a: stock -1",
             "link a -> a: stock +1", "link a -> a: stock 01", "link a -> a: stock 00", "link a -> a: stock any",
-            "link a -> a: stock 1 ", "link a -> a: stock  1", "link a -> a: stock 1,early", "link a -> a: stock 1 early",
+            "link a -> a: stock 1 ", "link a -> a: stock  1", "link a -> a: stock 1,early",
+            "link a -> a: stock 1 early",
             "link a -> a: stock 1, early, early", "link a -> a: stock 1, no time", "link a -> a: stock 1, Early",
             "link a -> a: stock 1,", "link a -> a", "link a ->a: stock 1", "link a-> a: stock 1", "link a->a: stock 1",
             "link a => a: stock 1", "link a <- a: stock 1", "link a - a: stock 1", "link a a: stock 1",

@@ -9,14 +9,16 @@ import unittest
 PACKAGE = pathlib.Path(__file__).resolve().parent.parent / "owntimes"
 LIBRARY = {"math": {"gcd", "lcm"}}
 BUILTINS = set(
-    "len range enumerate zip min max sum abs sorted reversed int str bool bytes list tuple dict set isinstance ord repr "
-    "any all divmod pow property classmethod staticmethod super Exception ValueError TypeError KeyError IndexError "
-    "LookupError ZeroDivisionError ArithmeticError OverflowError RuntimeError NotImplementedError".split()
+    "len range enumerate zip min max sum abs sorted reversed int str bool bytes list tuple dict set isinstance "
+    "ord repr any all divmod pow property classmethod staticmethod super Exception ValueError TypeError "
+    "KeyError IndexError LookupError ZeroDivisionError ArithmeticError OverflowError RuntimeError "
+    "NotImplementedError".split()
 )
 METHODS = set(
-    "append clear copy count endswith extend find get index insert isalnum isalpha isdigit islower isspace isupper items "
-    "join keys ljust lower lstrip partition pop remove replace reverse rfind rjust rpartition rsplit rstrip setdefault "
-    "split splitlines startswith strip update upper values zfill bit_length isascii removeprefix removesuffix".split()
+    "append clear copy count endswith extend find get index insert isalnum isalpha isdigit islower isspace "
+    "isupper items join keys ljust lower lstrip partition pop remove replace reverse rfind rjust rpartition "
+    "rsplit rstrip setdefault split splitlines startswith strip update upper values zfill bit_length isascii "
+    "removeprefix removesuffix".split()
 )
 NO_WORDS = re.compile(
     r"\b(register|mro|elements|open|input|law|version_info|with_traceback|add_note|breakpoint|compile|copyright|credits"

@@ -14,7 +14,9 @@ NO_NAMES = (
     "-", "a" * 4000, "any ", "aA", "a{", "`a", "a`", "a:", "a/", "->", None, True, False, 0, 1, b"a", ("a",), ["a"],
     {"a": 1}, {"a"}, object(), str, Odd(), Station("a"), Link("a", "a"), 10 ** 39,
 )
-NO_HANDS = (0, 5, -1, 10 ** 39, True, False, "1", "any", "", b"1", (1,), [1], {1: 1}, object(), int, Odd(), Station("a"))
+NO_HANDS = (
+    0, 5, -1, 10 ** 39, True, False, "1", "any", "", b"1", (1,), [1], {1: 1}, object(), int, Odd(), Station("a"),
+)
 NO_STOCKS = (-1, 6, 10 ** 39, -(10 ** 39), *NO_INTEGERS, Odd(), Station("a"))
 NO_FLAGS = (None, 0, 1, -1, "", "True", b"", (), (True,), [True], {}, object(), bool, Odd(), Station("a"))
 HANDS = (1, 2, 3, 4, None)

@@ -1,0 +1,45 @@
+"""Sets of integers from 0 on below a bound, written down as the bits of one integer."""
+
+
+def bits_with(numbers):
+    """The bits of these numbers."""
+    found = 0
+    for number in numbers:
+        found = found | (1 << number)
+    return found
+
+
+def bits_of(row, many):
+    """The members of a row that are below many."""
+    flags, start = row
+    single = bits_with([number for number in range(start) if flags[number]])
+    again = bits_with([number for number in range(start, len(flags)) if flags[number]])
+    return below(single | repeated(again, len(flags) - start, many), many)
+
+
+def flags_of(bits, many):
+    """For each number below many whether it is a member."""
+    return tuple([bits >> number & 1 == 1 for number in range(many)])
+
+
+def below(bits, many):
+    """The members below many."""
+    return bits & ((1 << many) - 1)
+
+
+def repeated(bits, period, many):
+    """The members and what is any number of periods above them, as far as it is below many."""
+    step = period
+    # What stands there already is put on top of itself, twice as far each time.
+    while step < many:
+        bits = bits | (bits << step)
+        step = 2 * step
+    return below(bits, many)
+
+
+def sums_with(bits, numbers, many):
+    """The sums of a member and one of the numbers, as far as they are below many."""
+    found = 0
+    for number in numbers:
+        found = found | (bits << number)
+    return below(found, many)
