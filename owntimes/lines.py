@@ -195,7 +195,8 @@ class Line:
 
     def __getitem__(self, at):
         check_known(at, self.names)
-        return self._stations[self.names.index(at)]
+        found = [station for station in self._stations if station.name == at]
+        return found[0]
 
     def __iter__(self):
         raise TypeError("a line is not gone over")

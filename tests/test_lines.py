@@ -100,6 +100,17 @@ class MadeTest(unittest.TestCase):
                 self.assertIs(raised(UnknownName, lambda: line[wrong]).given, wrong)
         self.assertEqual(raised(UnknownName, lambda: line[0:1]).given, slice(0, 1))
 
+    def test_station_by_name_of_one_and_of_six(self):
+        for stations in ((A,), (C,), SIX, SIX[::-1]):
+            line = Line(stations, (), stations[0].name)
+            for at, station in enumerate(stations):
+                self.assertIs(line[station.name], stations[at])
+                self.assertIs(line["".join(list(station.name))], stations[at])
+            for wrong in (*NO_NAMES, "d", "s", "s6", "s00", "S0", 0, 5, 6, ("s0",), stations[0], line):
+                if not isinstance(wrong, str) or wrong not in line.names:
+                    self.assertIs(raised(UnknownName, lambda: line[wrong]).given, wrong)
+        self.assertEqual(line.names, ("s5", "s4", "s3", "s2", "s1", "s0"))
+
     def test_never_change(self):
         line = Line((A, B), (AB,), "b")
         for word in ("stations", "links", "outlet", "names", "timed"):

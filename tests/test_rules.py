@@ -101,6 +101,34 @@ class RulesTest(unittest.TestCase):
             if isinstance(node.func, ast.Attribute):
                 self.assertIn(node.func.attr, METHODS | own, name)
 
+    def test_what_operators_run_calls_no_attribute(self):
+        functions, held = {}, set()
+        for _, node in self.nodes(ast.FunctionDef):
+            functions.setdefault(node.name, []).append(node)
+        for _, node in self.nodes(ast.Attribute):
+            if isinstance(node.ctx, ast.Store):
+                held.add(node.attr)
+        todo = [
+            node for name, nodes in functions.items() for node in nodes
+            if (name.startswith("__") and name not in ("__init__", "__enter__", "__exit__", "__setitem__"))
+            or any(isinstance(sign, ast.Name) and sign.id == "property" for sign in node.decorator_list)
+        ]
+        seen = set()
+        while todo:
+            node = todo.pop()
+            if id(node) in seen:
+                continue
+            seen.add(id(node))
+            given = {arg.arg for arg in node.args.args}
+            for call in [part for part in ast.walk(node) if isinstance(part, ast.Call)]:
+                name = getattr(call.func, "attr", getattr(call.func, "id", None))
+                if isinstance(call.func, ast.Attribute):
+                    self.assertNotIn(name, held, (node.name, call.lineno))
+                else:
+                    self.assertNotIn(name, given, (node.name, call.lineno))
+                todo.extend(functions.get(name, ()))
+        self.assertGreater(len(seen), 40)
+
     def test_ranges_and_their_kin_are_not_passed_on(self):
         takers = ("list", "tuple", "dict", "sorted", "sum", "any", "all", "enumerate", "zip", "min", "max", "len")
         for name, node in self.nodes(ast.Call):
