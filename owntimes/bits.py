@@ -1,4 +1,10 @@
-"""Sets of integers from 0 on below a bound, written down as the bits of one integer."""
+"""Sets of integers from 0 on below a bound, written down as the bits of one integer.
+
+A set that comes again is written down by its members below start + period, for a
+start from which on it comes again by the period.
+"""
+
+from math import gcd
 
 
 def bits_with(numbers):
@@ -22,6 +28,16 @@ def flags_of(bits, many):
     return tuple([bits >> number & 1 == 1 for number in range(many)])
 
 
+def how_many(bits):
+    """The number of members."""
+    return f"{bits:b}".count("1")
+
+
+def least_in(bits):
+    """The least member of a set that has members."""
+    return (bits & -bits).bit_length() - 1
+
+
 def below(bits, many):
     """The members below many."""
     return bits & ((1 << many) - 1)
@@ -43,3 +59,29 @@ def sums_with(bits, numbers, many):
     for number in numbers:
         found = found | (bits << number)
     return below(found, many)
+
+
+def folded(bits, many):
+    """The classes by many in which there are members."""
+    found = 0
+    while bits > 0:
+        found = found | below(bits, many)
+        bits = bits >> many
+    return found
+
+
+def classes_in(bits, start, period, many):
+    """The classes by many in which there are members of a set that comes again."""
+    near = gcd(period, many)
+    again = repeated(folded((bits >> start) << (start % near), near), near, many)
+    return again | folded(below(bits, start), many)
+
+
+def told_upto(bits, start, period, many):
+    """The members below many of a set that comes again."""
+    return below(below(bits, start) | (repeated(bits >> start, period, many) << start), many)
+
+
+def settled_at(bits, start, period):
+    """The least number from which on a set that comes again does so."""
+    return below(bits ^ (bits >> period), start).bit_length()

@@ -1,7 +1,7 @@
 """Checks of what is passed, each with the error that it raises."""
 
 from owntimes.errors import InvalidFlag, InvalidHands, InvalidIndex, InvalidName, InvalidNumber, InvalidStock
-from owntimes.errors import InvalidTasks, InvalidTimes, UnknownName
+from owntimes.errors import InvalidNames, InvalidTasks, InvalidTimes, UnknownName
 from owntimes.limits import MOST_HANDS, MOST_NUMBER, MOST_STOCK
 from owntimes.values import is_between, is_from, is_name, is_one_of
 
@@ -48,6 +48,12 @@ def check_number(value):
         raise InvalidNumber(value)
 
 
+def check_bound(value, most):
+    """Raise InvalidNumber if the value is no bound up to this one."""
+    if not is_between(value, 0, most):
+        raise InvalidNumber(value)
+
+
 def check_moment(value):
     """Raise InvalidNumber if the value is no moment."""
     if not is_from(value, 0):
@@ -72,6 +78,17 @@ def check_tasks(value, names):
         if not _is_pair(task) or not is_one_of(task[0], names) or not is_from(task[1], 1) or task in seen:
             raise InvalidTasks(at)
         seen[task] = True
+
+
+def check_names(value, names):
+    """Raise InvalidNames if the value is neither None nor a tuple of different ones of these names."""
+    if value is None:
+        return
+    if not isinstance(value, tuple):
+        raise InvalidNames(None)
+    for at, name in enumerate(value):
+        if not is_one_of(name, names) or name in value[:at]:
+            raise InvalidNames(at)
 
 
 def _is_pair(value):

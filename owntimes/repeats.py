@@ -45,6 +45,32 @@ def least_row(row):
     return flags[:least + period], least
 
 
+def with_zero(row, flag):
+    """The row in which 0 is a member as this flag tells, and all else as it was."""
+    flags, start = row
+    if start == 0:
+        flags, start = flags + flags[:1], 1
+    return (flag,) + flags[1:], start
+
+
+def least_of(row):
+    """The least member, None if there is none."""
+    flags, _ = row
+    return flags.index(True) if True in flags else None
+
+
+def settled_from(row):
+    """The least number from which on all are members, None if there is none."""
+    flags, start = least_row(row)
+    return start if flags[start:] == (True,) else None
+
+
+def only_row(one, other):
+    """The row of what is in the one row and not in the other one."""
+    # No period of both together is longer than this product, so that there is always an answer.
+    return least_row(meeting_row(one, opposite_row(other), len(one[0]) * len(other[0])))
+
+
 def opposite_row(row):
     """The row of all other integers; its start and period are the same."""
     flags, start = row

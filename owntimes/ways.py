@@ -3,7 +3,15 @@
 The beginning of the station at a place of the line is a point, an even number, and
 its end the number behind it. As steps are the same for all numbers, points of one
 number are written down as the bits of one integer.
+
+A step is told by the index of a link, by ("work", name) if it leads from beginning
+to end, or by ("hand", name) if it is the one by the hands of a station.
 """
+
+from owntimes.repeats import with_zero
+
+WORK = "work"
+HAND = "hand"
 
 
 def begin_of(line, name):
@@ -39,14 +47,21 @@ def steps_of(line):
     """All steps, each as by how many numbers it leads on, from which point, and to which one."""
     found = []
     for station in line.stations:
-        begin, end = begin_of(line, station.name), end_of(line, station.name)
-        found.append((0, begin, end))
+        found.append(step_at(line, (WORK, station.name)))
         if station.hands is not None:
-            found.append((station.hands, end, begin))
-    for link in line.links:
-        source = begin_of(line, link.source) if link.early else end_of(line, link.source)
-        found.append((link.stock, source, begin_of(line, link.target)))
-    return found
+            found.append(step_at(line, (HAND, station.name)))
+    return found + [step_at(line, at) for at in range(len(line.links))]
+
+
+def step_at(line, step):
+    """A step that is told by the index of a link, or by a word and the name of a station."""
+    if isinstance(step, tuple):
+        word, name = step
+        begin, end = begin_of(line, name), end_of(line, name)
+        return (0, begin, end) if word == WORK else (line[name].hands, end, begin)
+    link = line.links[step]
+    source = begin_of(line, link.source) if link.early else end_of(line, link.source)
+    return link.stock, source, begin_of(line, link.target)
 
 
 def reached_from(line, point):
@@ -55,10 +70,7 @@ def reached_from(line, point):
     Numbers count from that of the point on. The part of the list from the second value on, which is at
     least 1, comes again without end. The line is not stuck.
     """
-    steps = steps_of(line)
-    near = _reached_at_once(steps, 2 * len(line))
-    later = [(lag, source, near[target]) for lag, source, target in steps if lag > 0]
-    ahead = most_back(line)
+    near, later, ahead = _steps_by_rows(line)
     # Nothing stands before the first number, so that each number has as many before it as it hangs on.
     rows = [0] * ahead + [near[point]]
     seen = {}
@@ -70,23 +82,58 @@ def reached_from(line, point):
     return rows[ahead:], seen[last]
 
 
+def reached_upto(line, point, many):
+    """The points that ways from this one lead to, as a list with those of each of so many numbers."""
+    near, later, ahead = _steps_by_rows(line)
+    rows = [0] * ahead + [near[point]]
+    while len(rows) < ahead + many:
+        rows.append(_next_points(rows, later))
+    return rows[ahead:ahead + many]
+
+
+def are_apart(line, tasks):
+    """Whether no way leads from the end of one of these tasks, ascending, to the beginning of one."""
+    if not tasks:
+        return True
+    near, later, ahead = _steps_by_rows(line)
+    names = {}
+    for name, number in tasks:
+        names.setdefault(number, []).append(name)
+    rows = [0] * ahead
+    for number in range(tasks[0][1], tasks[-1][1] + 1):
+        points = _next_points(rows, later)
+        for name in names.get(number, ()):
+            points = points | near[end_of(line, name)]
+        if any([points >> begin_of(line, name) & 1 for name in names.get(number, ())]):
+            return False
+        rows = rows[1:] + [points]
+    return True
+
+
 def order_row(line, first, second):
     """The order lags of two stations of a line that is not stuck, as a row."""
-    return _row_at(reached_from(line, end_of(line, first)), begin_of(line, second))
+    return row_at(reached_from(line, end_of(line, first)), begin_of(line, second))
 
 
 def outlet_row(line, name):
     """The outlet lags of a station of a line that is not stuck, as a row."""
-    flags, start = order_row(line, name, line.outlet)
-    # A work of the outlet reaches its own number, though it is not before itself. The flag of 0 can be
-    # changed alone, as it is never in the part that comes again.
-    return (flags[0] or name == line.outlet,) + flags[1:], start
+    row = order_row(line, name, line.outlet)
+    # A work of the outlet reaches its own number, though it is not before itself.
+    return with_zero(row, True) if name == line.outlet else row
 
 
-def _row_at(reached, point):
+def row_at(reached, point):
     """The row of the numbers at which this point is reached."""
     rows, start = reached
     return tuple([row >> point & 1 == 1 for row in rows]), start
+
+
+def _steps_by_rows(line):
+    """What each point reaches at its own number, the steps to later numbers, and how far back these go."""
+    steps = steps_of(line)
+    near = _reached_at_once(steps, 2 * len(line))
+    later = [(lag, source, near[target]) for lag, source, target in steps if lag > 0]
+    return near, later, most_back(line)
 
 
 def _next_points(rows, later):

@@ -39,3 +39,40 @@ def random_times(chance, line, number, most, share=0.7):
         (name, k): chance.randint(0, most)
         for name in names for k in range(1, number + 1) if chance.random() < share
     }
+
+
+def changed_line(chance, line, times=1, stock=5, links=12):
+    """The line with so many things changed, that is not stuck."""
+    while True:
+        new = line
+        for _ in range(times):
+            kind = chance.choice(("stock", "hands", "less", "more", "outlet"))
+            if kind == "stock" and new.links:
+                new = new.with_stock(chance.randrange(len(new.links)), chance.randint(0, stock))
+            elif kind == "hands":
+                new = new.with_hands(chance.choice(new.names), chance.choice((None, 1, 2, 3, 4)))
+            elif kind == "less" and new.links:
+                new = new.without(chance.randrange(len(new.links)))
+            elif kind == "more" and len(new.links) < links:
+                ends = chance.choice(new.names), chance.choice(new.names)
+                new = new.with_link(Link(*ends, chance.randint(0, stock), early=chance.random() < 0.25))
+            elif kind == "outlet" and chance.random() < 0.2:
+                new = new.with_outlet(chance.choice(new.names))
+        if not walks.is_stuck(new):
+            return new
+
+
+def random_pair(chance, stations=6, links=12, stock=5):
+    """Two lines that are not stuck: mostly one and what it becomes by one or two changes."""
+    one = random_free_line(chance, stations, links, stock)
+    other = changed_line(chance, one, chance.choice((0, 1, 1, 1, 2, 2, 3)), stock, links)
+    if chance.random() < 0.15:
+        other = random_free_line(chance, stations, links, stock)
+    return (one, other) if chance.random() < 0.5 else (other, one)
+
+
+def joined(line):
+    """The line with one more station as its outlet: each task reaches each number from its own on."""
+    stations = (*line.stations, Station("out", timed=False))
+    links = [Link(name, "out") for name in line.names]
+    return Line(stations, (*line.links, *links), "out")

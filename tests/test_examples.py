@@ -2,10 +2,14 @@
 
 import unittest
 
+from owntimes.comparing import later_case, never_later, same, times_of
+from owntimes.factors import beyond, factor, head_start
 from owntimes.lagsets import Lags
 from owntimes.lines import Line, Link, Station
+from owntimes.matters import enough_hands, enough_stock, idle_links
 from owntimes.moments import end, events, moments, under_way
 from owntimes.orders import in_sequence, order_lags, outlet_lags, reaching
+from owntimes.overlap import may_overlap, most_at_once, overlapping
 from owntimes.stuck import rings, stuck
 
 
@@ -78,6 +82,64 @@ class OrdersExamplesTest(unittest.TestCase):
             [reaching(chain, 2), in_sequence(chain, (("b", 1), ("b", 2))),
              in_sequence(chain, (("a", 1), ("b", 1), ("b", 3)))],
             [(('a', 1), ('a', 2), ('b', 2)), False, True],
+        )
+
+
+class OverlapExamplesTest(unittest.TestCase):
+    def test_examples(self):
+        chain = Line((Station("a"), Station("b", 2)), (Link("a", "b"),), "b")
+        self.assertEqual(
+            [most_at_once(chain), most_at_once(chain, ("b",)), most_at_once(chain.with_link(Link("b", "a", 1))),
+             most_at_once(chain.with_hands("b", None)), overlapping(chain, ("a",)) is None],
+            [3, 2, 1, None, False],
+        )
+        self.assertEqual(
+            [may_overlap(chain, (("b", 1), ("b", 2), ("a", 9))), may_overlap(chain, (("b", 1), ("b", 3)))],
+            [True, False],
+        )
+
+
+class ComparingExamplesTest(unittest.TestCase):
+    def test_examples(self):
+        chain = Line((Station("a"), Station("b")), (Link("a", "b"),), "b")
+        single = chain.with_link(Link("b", "a", 1))
+        self.assertEqual(
+            [never_later(chain, single), never_later(single, chain), later_case(single, chain),
+             same(chain, chain.with_link(Link("a", "b", 2)))],
+            [True, False, (2, (('b', 1), ('a', 2))), True],
+        )
+        self.assertEqual(
+            [times_of((2, (("b", 1), ("a", 2)))),
+             later_case(Line((Station("b"), Station("a")), (Link("b", "a"),), "a"), chain, whole=True)],
+            [{('b', 1): 1, ('a', 2): 1}, (2, (('b', 1), ('a', 2)))],
+        )
+
+
+class FactorsExamplesTest(unittest.TestCase):
+    def test_examples(self):
+        chain = Line((Station("a"), Station("b")), (Link("a", "b"),), "b")
+        single = chain.with_link(Link("b", "a", 1))
+        self.assertEqual(
+            [factor(single, chain), factor(chain, single), factor(chain, chain.with_hands("b", None)),
+             beyond(single, chain, 2), head_start(single, chain)],
+            [2, 1, None, None, None],
+        )
+        delayed = Line(
+            (Station("a"), Station("b"), Station("c", timed=False)), (Link("a", "b"), Link("b", "c", 2)), "c",
+        )
+        self.assertEqual(
+            [head_start(chain, delayed), head_start(delayed, chain), factor(chain, delayed), factor(delayed, chain)],
+            [2, 0, None, 1],
+        )
+
+
+class MattersExamplesTest(unittest.TestCase):
+    def test_examples(self):
+        line = Line((Station("a"), Station("b", 2)), (Link("a", "b"), Link("a", "b", 4), Link("b", "b", 1)), "b")
+        self.assertEqual(
+            [idle_links(line), enough_stock(line, 1), enough_hands(line, "b"), enough_hands(line, "a"),
+             enough_stock(line, 0)],
+            [(1,), 0, 1, None, 4],
         )
 
 

@@ -22,13 +22,19 @@ METHODS = set(
 )
 NO_WORDS = re.compile(
     r"\b(register|mro|elements|open|input|law|version_info|with_traceback|add_note|breakpoint|compile|copyright|credits"
-    r"|dir|eval|exec|exit|globals|help|id|license|locals|os|quit|vars|enum|Enum|Flag|Generic|Protocol|ABC|Meta)\b"
+    r"|dir|eval|exec|exit|globals|help|id|license|locals|os|quit|vars|enum|Enum|IntEnum|StrEnum|Flag|IntFlag|Generic"
+    r"|Protocol|ABC|ABCMeta|typing|namedtuple|NamedTuple|TypedDict|abstractmethod|Meta|attrgetter|methodcaller)\b"
+    r"|dataclass|overload|contextmanager|\(type\)|metaclass="
 )
 # Where the interface lists its classes and functions.
 DEFINED = {
     "lagsets.py": ("Lags",), "lines.py": ("Station", "Link", "Line"), "stuck.py": ("rings", "stuck"),
     "moments.py": ("moments", "end", "whole_end", "events", "under_way"),
     "orders.py": ("order_lags", "outlet_lags", "reaching", "in_sequence"),
+    "overlap.py": ("may_overlap", "most_at_once", "overlapping"),
+    "comparing.py": ("never_later", "later_case", "same", "times_of"),
+    "factors.py": ("factor", "beyond", "head_start"),
+    "matters.py": ("idle_links", "idle_stations", "enough_stock", "enough_hands"),
 }
 
 
@@ -94,6 +100,17 @@ class RulesTest(unittest.TestCase):
         for name, node in self.nodes(ast.ImportFrom):
             if node.module not in LIBRARY:
                 self.assertLessEqual({alias.name for alias in node.names}, defined[node.module], name)
+
+    def test_no_two_files_import_from_each_other(self):
+        needed = {path.stem: set() for path in self.trees}
+        for name, node in self.nodes(ast.ImportFrom):
+            if node.module not in LIBRARY:
+                needed[name.removesuffix(".py")].add(node.module.removeprefix("owntimes."))
+        done = set()
+        while len(done) < len(needed):
+            free = {name for name, names in needed.items() if name not in done and names <= done}
+            self.assertTrue(free, set(needed) - done)
+            done |= free
 
     def test_methods(self):
         own = {node.name for _, node in self.nodes(ast.FunctionDef)}

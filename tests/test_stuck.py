@@ -3,7 +3,7 @@
 import random
 import unittest
 
-from owntimes import moments, orders, stuck
+from owntimes import comparing, factors, matters, moments, orders, overlap, stuck
 from owntimes.errors import InvalidNumber, InvalidTasks, InvalidTimes, NotALine, Stuck, UnknownName
 from owntimes.lines import Line, Link, Station
 from tests import walks
@@ -17,12 +17,24 @@ def line_of(names, *links):
     return Line(tuple(Station(name) for name in names), tuple(made), names[0])
 
 
+PLAIN = line_of("ab", ("a", "b", 0))
 # Each function that works something out for a line, with arguments behind the line that are valid.
 CALLS = (
     (moments.moments, ({}, 1)), (moments.end, ({}, 1)), (moments.whole_end, ({}, 1)),
     (lambda line, times, number: list(moments.events(line, times, number)), ({}, 1)),
     (moments.under_way, ({}, 1, 0)), (orders.order_lags, ("a", "a")), (orders.outlet_lags, ("a",)),
     (orders.reaching, (1,)), (orders.in_sequence, ((),)), (orders.in_sequence, ((("a", 1), ("a", 2)),)),
+    (overlap.may_overlap, ((),)), (overlap.may_overlap, ((("a", 1), ("a", 2)),)), (overlap.most_at_once, ()),
+    (overlap.most_at_once, ((),)), (overlap.overlapping, ()), (overlap.overlapping, (("a",),)),
+    (comparing.never_later, (PLAIN,)), (comparing.later_case, (PLAIN,)), (comparing.same, (PLAIN,)),
+    (lambda line, other: comparing.never_later(other, line, whole=True), (PLAIN,)),
+    (lambda line, other: comparing.later_case(other, line), (PLAIN,)),
+    (lambda line, other: comparing.same(other, line), (PLAIN,)),
+    (factors.factor, (PLAIN,)), (factors.beyond, (PLAIN, 1)), (factors.head_start, (PLAIN,)),
+    (lambda line, other: factors.factor(other, line), (PLAIN,)),
+    (lambda line, other: factors.beyond(other, line, 0), (PLAIN,)),
+    (lambda line, other: factors.head_start(other, line), (PLAIN,)),
+    (matters.idle_links, ()), (matters.idle_stations, ()), (matters.enough_hands, ("a",)),
 )
 
 
