@@ -28,14 +28,19 @@ def flags_of(bits, many):
     return tuple([bits >> number & 1 == 1 for number in range(many)])
 
 
-def how_many(bits):
-    """The number of members."""
-    return f"{bits:b}".count("1")
-
-
 def least_in(bits):
     """The least member of a set that has members."""
     return (bits & -bits).bit_length() - 1
+
+
+def members_of(bits):
+    """The members, ascending."""
+    found = []
+    while bits > 0:
+        least = least_in(bits)
+        found.append(least)
+        bits = bits ^ (1 << least)
+    return found
 
 
 def below(bits, many):

@@ -2,18 +2,18 @@
 
 A chain goes from task to task as the one line orders them, so that no number is less
 than the one before it. By how much greater it may be tell the gaps, a row for each two
-stations. What can follow all tasks of a chain is told by the numbers of the tasks of
-each station, as bits that come again, those of all stations side by side in one
-integer. They are counted from the least number that there is, so that what was looked
+stations. A task is written down as an integer, its number times the number of stations
+and the place of its station; sets of tasks are bits that come again. What can follow
+all tasks of a chain is counted from the least number in it, so that what was looked
 through once is met again.
 """
 
 from math import lcm
 
-from owntimes.bits import below, bits_of, classes_in, folded, how_many, least_in, settled_at, told_upto
+from owntimes.bits import below, bits_with, classes_in, folded, least_in, members_of, settled_at, told_upto
 from owntimes.covers import cheapest, closed_ways, way_lag, works_on
 from owntimes.nets import loose_row
-from owntimes.repeats import least_of
+from owntimes.repeats import flag_at, least_of
 
 
 class Chains:
@@ -25,40 +25,38 @@ class Chains:
     """
 
     def __init__(self, names, gaps, groups):
-        self._names = names
-        self._groups = groups
-        self._start = max([start for _, start in gaps.values()], default=0)
-        self._period = 1
+        period = 1
         for flags, start in gaps.values():
-            self._period = lcm(self._period, len(flags) - start)
-        # So far is told what can follow. To count it from later numbers, it is told thrice as far and
-        # the gaps twice as far, so that the bits of one station never get into those of another one.
+            period = lcm(period, len(flags) - start)
+        self._names = names
+        self._step = len(names)
+        self._start = self._step * max([start for _, start in gaps.values()], default=0)
+        self._period = self._step * period
+        # What can follow is told up to here. As it is counted from later tasks and from what can follow these, it
+        # is told thrice as far for this, and the gaps twice as far.
         self._many = self._start + self._period
-        self._width = 3 * self._many
-        self._after = [self._packed([bits_of(gaps[one, other], 2 * self._many) for other in names]) for one in names]
-        self._kept = self._packed([below(-1, self._many) for _ in names])
+        self._after = [self._tasks_after(gaps, name) for name in names]
+        self._groups = [self._classes_of(number, members) for number, members in groups]
         self._bounds = {}
-        self._classes = {}
         self._failed = {}
 
     def found(self, many):
         """Any chain of so many tasks, at least one, as pairs (number, name) from the number 1 on; None if none is."""
-        firsts = [self._next_one(0, place, self._after[place]) for place in range(len(self._names))]
-        chain = self._through(firsts, many)
-        return None if chain is None else [(number + 1, self._names[place]) for number, place in chain]
+        chain = self._through([self._next_one(place, self._after[place]) for place in range(self._step)], many)
+        return None if chain is None else [(task // self._step + 1, self._names[task % self._step]) for task in chain]
 
     def _through(self, nexts, many):
-        """A chain of so many tasks that begins with one of these, as pairs (number, place); None if there is none."""
-        for bound, number, place, ahead, after in sorted(nexts, key=lambda new: -new[0]):
+        """A chain of so many tasks that begins with one of these; None if there is none."""
+        for bound, task, ahead, after in sorted(nexts, key=lambda new: -new[0]):
             if 1 + bound < many:
                 return None
             chain = self._within(after, many - 1)
             if chain is not None:
-                return [(number, place)] + [(number + ahead + later, at) for later, at in chain]
+                return [task] + [self._number_of(task) + ahead + later for later in chain]
         return None
 
     def _within(self, rest, many):
-        """A chain of so many tasks that can follow, as pairs (number, place); None if there is none."""
+        """A chain of so many tasks that can follow; None if there is none."""
         if many == 0:
             return []
         if self._bound(rest) < many or many >= self._failed.get(rest, many + 1):
@@ -69,57 +67,51 @@ class Chains:
         return chain
 
     def _nexts_in(self, rest):
-        """What can come next; of those that leave the same to follow only the first."""
-        parts = self._parts(rest)
-        # What comes later than this can come a period earlier, with all that is behind it.
-        last = self._period + max([settled_at(bits, self._start, self._period) for bits in parts])
-        far = self._packed([told_upto(bits, self._start, self._period, self._width) for bits in parts])
+        """What can come next; of tasks that leave the same to follow only the first."""
+        # What comes later than a period behind this can come a period earlier, with all that is behind it.
+        settled = self._number_of(settled_at(rest, self._start, self._period) + self._step - 1)
+        far = told_upto(rest, self._start, self._period, 3 * self._many)
         found = {}
-        for number in range(last):
-            for place, bits in enumerate(parts):
-                if bits >> number & 1:
-                    new = self._next_one(number, place, far >> number & self._after[place])
-                    found.setdefault(new[-1], new)
+        for task in members_of(below(far, settled + self._period)):
+            new = self._next_one(task, far >> self._number_of(task) & self._after[task % self._step])
+            found.setdefault(new[-1], new)
         return list(found.values())
 
-    def _next_one(self, number, place, left):
+    def _next_one(self, task, left):
         """A next task, behind the bound of what can follow it and before how far on this is counted from, and this."""
-        ahead = least_in(folded(left, self._width)) if left else 0
-        after = left >> ahead & self._kept
-        return self._bound(after), number, place, ahead, after
+        ahead = self._number_of(least_in(left)) if left else 0
+        after = below(left >> ahead, self._many)
+        return self._bound(after), task, ahead, after
 
     def _bound(self, rest):
         """As many tasks as no chain of what can follow exceeds."""
         if rest not in self._bounds:
-            parts = self._parts(rest)
-            costs = [self._cost(parts, many, members) for many, members in self._groups]
-            todo = sum([1 << place for place, bits in enumerate(parts) if bits])
-            self._bounds[rest], _ = cheapest(todo, costs, {})
+            found, costs = {}, []
+            for number, places, classes in self._groups:
+                if number not in found:
+                    found[number] = classes_in(rest, self._start, self._period, number)
+                costs.append((places, len([bits for bits in classes if bits & found[number]])))
+            self._bounds[rest], _ = cheapest(folded(rest, self._step), costs, {})
         return self._bounds[rest]
 
-    def _cost(self, parts, many, members):
-        """The stations of a group of which something can follow, and how many different rests by its integer."""
-        mask, found = 0, 0
-        for place, offset in members:
-            if parts[place]:
-                classes = self._classes_of(parts[place], many)
-                mask = mask | (1 << place)
-                found = found | (classes >> offset) | below(classes << (many - offset), many)
-        return mask, how_many(found)
+    def _tasks_after(self, gaps, name):
+        """The tasks that can follow the task of this station at 0, as far as they are needed."""
+        return bits_with([
+            self._step * number + place for place, other in enumerate(self._names)
+            for number in range(2 * self._many // self._step) if flag_at(gaps[name, other], number)
+        ])
 
-    def _classes_of(self, bits, many):
-        """The rests by this integer that numbers of a station leave."""
-        if (bits, many) not in self._classes:
-            self._classes[bits, many] = classes_in(bits, self._start, self._period, many)
-        return self._classes[bits, many]
+    def _classes_of(self, number, members):
+        """The integer of a group, counted as tasks are, its stations as bits, and for each rest by it the tasks."""
+        classes = [
+            bits_with([self._step * ((rest + offset) % number) + place for place, offset in members])
+            for rest in range(number)
+        ]
+        return self._step * number, bits_with([place for place, _ in members]), classes
 
-    def _packed(self, parts):
-        """The bits of all stations side by side."""
-        return sum([bits << (self._width * place) for place, bits in enumerate(parts)])
-
-    def _parts(self, rest):
-        """The bits of each station, as far as it is told what can follow."""
-        return [below(rest >> (self._width * place), self._many) for place in range(len(self._names))]
+    def _number_of(self, task):
+        """The first one of the tasks with the number of this one."""
+        return task - task % self._step
 
 
 def chains_in(other, left, right, names):
@@ -133,7 +125,8 @@ def chains_in(other, left, right, names):
         lag = way_lag(other, way)
         # Each task that a closed way goes through is before the next one in it, all the way round.
         members = [(names.index(name), far % lag) for name, far in works_on(other, way) if name in names]
-        groups[lag, tuple(members)] = True
+        if members:
+            groups[lag, tuple(members)] = True
     for place, name in enumerate(names):
         if least_of(gaps[name, name]) is None:
             groups[1, ((place, 0),)] = True

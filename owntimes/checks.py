@@ -3,7 +3,7 @@
 from owntimes.errors import InvalidFlag, InvalidHands, InvalidIndex, InvalidName, InvalidNumber, InvalidStock
 from owntimes.errors import InvalidNames, InvalidTasks, InvalidTimes, UnknownName
 from owntimes.limits import MOST_HANDS, MOST_NUMBER, MOST_STOCK
-from owntimes.values import is_between, is_from, is_name, is_one_of
+from owntimes.values import is_between, is_from, is_name, is_one_of, is_task
 
 
 def check_name(value):
@@ -65,7 +65,7 @@ def check_times(value):
     if not isinstance(value, dict):
         raise InvalidTimes(value)
     for task, span in value.items():
-        if not _is_pair(task) or not is_name(task[0]) or not is_from(task[1], 1) or not is_from(span, 0):
+        if not is_task(task) or not is_from(span, 0):
             raise InvalidTimes(value)
 
 
@@ -75,7 +75,7 @@ def check_tasks(value, names):
         raise InvalidTasks(None)
     seen = {}
     for at, task in enumerate(value):
-        if not _is_pair(task) or not is_one_of(task[0], names) or not is_from(task[1], 1) or task in seen:
+        if not is_task(task) or not is_one_of(task[0], names) or task in seen:
             raise InvalidTasks(at)
         seen[task] = True
 
@@ -89,8 +89,3 @@ def check_names(value, names):
     for at, name in enumerate(value):
         if not is_one_of(name, names) or name in value[:at]:
             raise InvalidNames(at)
-
-
-def _is_pair(value):
-    """Whether the value is a tuple of two."""
-    return isinstance(value, tuple) and len(value) == 2

@@ -2,7 +2,7 @@
 
 from owntimes.chains import chains_in
 from owntimes.checks import check_bound
-from owntimes.heads import least_lead
+from owntimes.heads import leads_by, least_lead
 from owntimes.lines import check_line
 from owntimes.nets import cases_of_one, first_case, net_of
 from owntimes.repeats import least_of
@@ -37,8 +37,9 @@ def beyond(one, other, bound):
     chain = _chain_of(other, left, right, bound + 1)
     if chain is None:
         return None
-    number, name = chain[-1]
-    return number + least_of(left[0][name]), tuple([(name, number) for number, name in sorted(chain)])
+    # What the last one reaches, all that come before it reach, too.
+    last, at = chain[-1]
+    return last + least_of(left[0][at]), tuple([(name, number) for number, name in sorted(chain)])
 
 
 def head_start(one, other):
@@ -46,6 +47,12 @@ def head_start(one, other):
     _check(one, other)
     left, right = _nets(one, other)
     return least_lead(left, right)
+
+
+def has_head_start(one, other, start):
+    """Whether the one line is never later than the other one with this head start."""
+    left, right = _nets(one, other)
+    return leads_by(left, right, start)
 
 
 def _check(one, other):
@@ -77,7 +84,8 @@ def _endless(left, right, names):
 def _chain_of(other, left, right, many):
     """Any so many tasks, each two in sequence in the one net, no two in the other one; None if there are none."""
     names = _names_reaching(left)
-    for name in _endless(left, right, names):
-        lag = least_of(left[1][name, name])
-        return [(1 + lag * at, name) for at in range(many)]
+    endless = _endless(left, right, names)
+    if endless:
+        lag = least_of(left[1][endless[0], endless[0]])
+        return [(1 + lag * at, endless[0]) for at in range(many)]
     return chains_in(other, left, right, names).found(many)

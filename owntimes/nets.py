@@ -6,7 +6,7 @@ under the pair of their names. All of them are rows.
 """
 
 from owntimes.repeats import flag_at, least_of, least_row, only_row, with_zero
-from owntimes.ways import begin_of, end_of, reached_from, row_at
+from owntimes.ways import begin_of, end_of, outlet_row_at, reached_from, row_at
 
 _NOTHING = ((False,), 0)
 _EVERYTHING = ((True,), 0)
@@ -14,13 +14,16 @@ _EVERYTHING = ((True,), 0)
 
 def net_of(line):
     """The net of a line that is not stuck."""
+    return net_from(line, {name: reached_from(line, end_of(line, name)) for name in line.timed})
+
+
+def net_from(line, reached):
+    """The net that is told by what ways from the ends of each timed station lead to, and where this comes again."""
     outlets, orders = {}, {}
     for name in line.timed:
-        reached = reached_from(line, end_of(line, name))
-        row = row_at(reached, begin_of(line, line.outlet))
-        outlets[name] = least_row(with_zero(row, True) if name == line.outlet else row)
+        outlets[name] = least_row(outlet_row_at(line, name, reached[name]))
         for other in line.timed:
-            orders[name, other] = least_row(row_at(reached, begin_of(line, other)))
+            orders[name, other] = least_row(row_at(reached[name], begin_of(line, other)))
     return outlets, orders
 
 

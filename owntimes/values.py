@@ -31,3 +31,13 @@ def is_one_of(value, names):
     """Whether the value is one of these names."""
     # What is no string could claim to be equal to one.
     return isinstance(value, str) and value in names
+
+
+def is_pair(value):
+    """Whether the value is a tuple of two."""
+    return isinstance(value, tuple) and len(value) == 2
+
+
+def is_task(value):
+    """Whether the value is a pair of a name and an integer from 1 on."""
+    return is_pair(value) and is_name(value[0]) and is_from(value[1], 1)

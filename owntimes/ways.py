@@ -117,9 +117,23 @@ def order_row(line, first, second):
 
 def outlet_row(line, name):
     """The outlet lags of a station of a line that is not stuck, as a row."""
-    row = order_row(line, name, line.outlet)
+    return outlet_row_at(line, name, reached_from(line, end_of(line, name)))
+
+
+def outlet_row_at(line, name, reached):
+    """The outlet lags of a station, told by what ways from its ends lead to, as a row."""
+    row = row_at(reached, begin_of(line, line.outlet))
     # A work of the outlet reaches its own number, though it is not before itself.
     return with_zero(row, True) if name == line.outlet else row
+
+
+def names_at(line, points):
+    """The names of the stations whose ends are among these points, ascending, and of those whose beginnings are."""
+    names = sorted(list(line.names))
+    return (
+        tuple([name for name in names if points >> end_of(line, name) & 1]),
+        tuple([name for name in names if points >> begin_of(line, name) & 1]),
+    )
 
 
 def row_at(reached, point):

@@ -76,3 +76,26 @@ def joined(line):
     stations = (*line.stations, Station("out", timed=False))
     links = [Link(name, "out") for name in line.names]
     return Line(stations, (*line.links, *links), "out")
+
+
+def wide_pair(chance):
+    """Two lines of one to five stations and an outlet behind all; in the other one many works can be under way."""
+    while True:
+        names = chance.sample("abcde", chance.randint(1, 5))
+        hands = chance.choice(((None,), (None, 4), (3, 4), (4, None, 2)))
+        links = [
+            (chance.choice(names), chance.choice(names), chance.randint(1, 5), chance.random() < 0.15)
+            for _ in range(chance.randint(0, 6))
+        ]
+        if chance.random() < 0.6:
+            links += [(name, other, chance.randint(2, 5), False) for name, other in zip(names, names[1:] + names[:1])]
+        made = [Link(*link[:3], early=link[3]) for link in links[:7]]
+        other = Line(tuple(Station(name, chance.choice(hands)) for name in names), tuple(made), names[0])
+        # The one line has fewer hands, less stock and some links more.
+        hands = chance.choice(((1,), (1, 2), (2,), (2, 3), (None, 1, 3)))
+        less = [Link(*link[:2], max(0, link[2] - chance.choice((0, 0, 1, 2))), early=link[3]) for link in links[:7]]
+        while len(less) < 7 and chance.random() < 0.5:
+            less.append(Link(chance.choice(names), chance.choice(names), chance.randint(0, 5)))
+        one = Line(tuple(Station(name, chance.choice(hands)) for name in names), tuple(less), names[0])
+        if not walks.is_stuck(one) and not walks.is_stuck(other):
+            return joined(one), joined(other)

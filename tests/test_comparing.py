@@ -99,7 +99,7 @@ class DrawnTest(Compared):
                 later += 1
             else:
                 self.assertTrue(case is None or case[0] > last)
-        self.assertGreater(later, 10)
+        self.assertGreater(later, 4)
 
     def test_ends_for_drawn_times(self):
         chance, seen = random.Random(84), 0

@@ -2,7 +2,11 @@
 
 import unittest
 
+from owntimes.books import Book
+from owntimes.certificates import certify_at_once, certify_later, certify_never_later
+from owntimes.checker import accepts
 from owntimes.comparing import later_case, never_later, same, times_of
+from owntimes.errors import Broken
 from owntimes.factors import beyond, factor, head_start
 from owntimes.lagsets import Lags
 from owntimes.lines import Line, Link, Station
@@ -11,6 +15,8 @@ from owntimes.moments import end, events, moments, under_way
 from owntimes.orders import in_sequence, order_lags, outlet_lags, reaching
 from owntimes.overlap import may_overlap, most_at_once, overlapping
 from owntimes.stuck import rings, stuck
+from owntimes.tables import table
+from tests.wrong import raised
 
 
 class LagsetsExamplesTest(unittest.TestCase):
@@ -140,6 +146,48 @@ class MattersExamplesTest(unittest.TestCase):
             [idle_links(line), enough_stock(line, 1), enough_hands(line, "b"), enough_hands(line, "a"),
              enough_stock(line, 0)],
             [(1,), 0, 1, None, 4],
+        )
+
+
+class TablesExamplesTest(unittest.TestCase):
+    def test_examples(self):
+        outlets, orders, pairs = table(Line((Station("b"), Station("a")), (Link("a", "b"),), "b"))
+        self.assertEqual(
+            [outlets[0][0], str(outlets[0][1]), len(outlets), orders[1][:2], str(orders[1][2]), len(orders), pairs],
+            ['a', '0+1', 2, ('a', 'b'), '1+1', 3, (('a', 'b'),)],
+        )
+
+
+class BooksExamplesTest(unittest.TestCase):
+    def test_examples(self):
+        chain, book = Line((Station("a"), Station("b")), (Link("a", "b"),), "b"), Book()
+        book["old"] = chain.with_link(Link("b", "a", 1))
+        book["new"] = chain
+        book.claim(("never later", "new", "old"))
+        book.claim(("factor", "old", "new", 2))
+        self.assertEqual(
+            [book.names, len(book.claims), book.changes, "new" in book, book["new"] == chain],
+            [('new', 'old'), 2, 4, True, True],
+        )
+        error = raised(Broken, book.claim, ("at once", "new", 1))
+        self.assertEqual((error.index, error.shown), (2, 2))
+
+
+class CertificatesExamplesTest(unittest.TestCase):
+    def test_examples(self):
+        chain = Line((Station("a"), Station("b")), (Link("a", "b"),), "b")
+        single = chain.with_link(Link("b", "a", 1))
+        claim, certificate = certify_at_once(single, 2)
+        self.assertEqual(
+            [claim[0], claim[2], accepts(claim, certificate),
+             accepts(claim, ((0, ("work", "b"), 1, ("work", "a")),)), accepts(claim, ((0, 1),))],
+            ['not at once', 1, True, True, False],
+        )
+        found = certify_later(single, chain)
+        self.assertEqual(
+            [found[0][0], found[0][3], accepts(found[0], found[1]), accepts(found[0], (1, (("a", 1),))),
+             certify_never_later(single, chain), certify_never_later(chain, single)[0][0]],
+            ['later', 1, True, False, None, 'never later'],
         )
 
 

@@ -35,6 +35,8 @@ DEFINED = {
     "comparing.py": ("never_later", "later_case", "same", "times_of"),
     "factors.py": ("factor", "beyond", "head_start"),
     "matters.py": ("idle_links", "idle_stations", "enough_stock", "enough_hands"),
+    "tables.py": ("table",), "books.py": ("Book",), "checker.py": ("accepts",),
+    "certificates.py": ("certify_later", "certify_never_later", "certify_at_once"),
 }
 
 

@@ -3,7 +3,7 @@
 import random
 import unittest
 
-from owntimes import comparing, factors, matters, moments, orders, overlap, stuck
+from owntimes import certificates, comparing, factors, matters, moments, orders, overlap, stuck, tables
 from owntimes.errors import InvalidNumber, InvalidTasks, InvalidTimes, NotALine, Stuck, UnknownName
 from owntimes.lines import Line, Link, Station
 from tests import walks
@@ -34,7 +34,11 @@ CALLS = (
     (lambda line, other: factors.factor(other, line), (PLAIN,)),
     (lambda line, other: factors.beyond(other, line, 0), (PLAIN,)),
     (lambda line, other: factors.head_start(other, line), (PLAIN,)),
-    (matters.idle_links, ()), (matters.idle_stations, ()), (matters.enough_hands, ("a",)),
+    (matters.idle_links, ()), (matters.idle_stations, ()), (matters.enough_hands, ("a",)), (tables.table, ()),
+    (certificates.certify_later, (PLAIN,)), (certificates.certify_never_later, (PLAIN,)),
+    (certificates.certify_at_once, (0,)), (certificates.certify_at_once, (60,)),
+    (lambda line, other: certificates.certify_later(other, line, 20), (PLAIN,)),
+    (lambda line, other: certificates.certify_never_later(other, line), (PLAIN,)),
 )
 
 

@@ -41,14 +41,31 @@ class Words:
         return most_in_pairs(counting, self.in_sequence)
 
 
-def most_in_pairs(tasks, fits, found=0):
+def most_in_pairs(tasks, fits):
     """The most of these tasks of which each two fit."""
-    best = found
-    for at, task in enumerate(tasks):
-        if found + len(tasks) - at <= best:
-            break
-        rest = [other for other in tasks[at + 1:] if fits(task, other)]
-        best = max(best, most_in_pairs(rest, fits, found + 1))
+    fitting = [
+        sum(1 << to for to, other in enumerate(tasks) if to != at and (fits(task, other) or fits(other, task)))
+        for at, task in enumerate(tasks)
+    ]
+    return _most_of((1 << len(tasks)) - 1, fitting, 0, 0)
+
+
+def _most_of(rest, fitting, found, best):
+    """The most tasks with those found so far, or the best so far if that is not fewer."""
+    # Tasks of one class fit with no other one of it, so that no more can be taken than there are classes.
+    ordered, left, many = [], rest, 0
+    while left:
+        many, free = many + 1, left
+        while free:
+            at = (free & -free).bit_length() - 1
+            ordered.append((at, many))
+            left &= ~(1 << at)
+            free &= ~(1 << at) & ~fitting[at]
+    for at, many in reversed(ordered):
+        if found + many <= best:
+            return best
+        best = _most_of(rest & fitting[at], fitting, found + 1, max(best, found + 1))
+        rest &= ~(1 << at)
     return best
 
 
