@@ -47,7 +47,7 @@ class Chains:
 
     def _through(self, nexts, many):
         """A chain of so many tasks that begins with one of these; None if there is none."""
-        for bound, task, ahead, after in sorted(nexts, key=lambda new: -new[0]):
+        for bound, task, ahead, after in sorted(nexts, key=_bound_of, reverse=True):
             if 1 + bound < many:
                 return None
             chain = self._within(after, many - 1)
@@ -112,6 +112,11 @@ class Chains:
     def _number_of(self, task):
         """The first one of the tasks with the number of this one."""
         return task - task % self._step
+
+
+def _bound_of(new):
+    """The bound of what can follow a next task."""
+    return new[0]
 
 
 def chains_in(other, left, right, names):

@@ -9,7 +9,6 @@ from owntimes.errors import InvalidNames, InvalidTasks, NotALine, Stuck
 from owntimes.lines import Line, Link, Station
 from owntimes.moments import under_way
 from owntimes.overlap import may_overlap, most_at_once, overlapping
-from tests import walks
 from tests.drawn import random_free_line, random_times
 from tests.test_line_changes import NO_LINES
 from tests.words import Words, most_beside, order
